@@ -74,12 +74,12 @@ func (s *step) compareNumbers(op uint8, wide bool, a, b scalars.N) []Way {
 		if !ok {
 			continue
 		}
-		f := s.f
-		f.R[s.in.Dst].N = x
+		ways = append(ways, Way{s.place(holds), s.f})
+		r := &ways[len(ways)-1].F.R
+		r[s.in.Dst].N = x
 		if s.in.Op&api.FromReg != 0 {
-			f.R[s.in.Src].N = y
+			r[s.in.Src].N = y
 		}
-		ways = append(ways, Way{s.place(holds), f})
 	}
 	return ways
 }
