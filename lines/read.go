@@ -1,7 +1,6 @@
 package lines
 
 import (
-	"slices"
 	"strings"
 
 	"firewall/api"
@@ -69,11 +68,15 @@ func (p places) insn(first string) api.Insn {
 		return api.Insn{Op: p.octet(0), Dst: p.octet(1), Src: p.octet(2), Off: p.offset(3), Imm: p.value(4)}
 	}
 	if base, wide, ok := widthOf(first); ok {
-		if k := slices.Index(arithmetic[:], base); k >= 0 {
-			return p.alu(uint8(k*opStep), wide)
+		for k, name := range arithmetic {
+			if name == base {
+				return p.alu(uint8(k*opStep), wide)
+			}
 		}
-		if k := slices.Index(conditions[:], base); k >= 0 {
-			return p.condition(uint8(k*opStep), wide)
+		for k, name := range conditions {
+			if name == base {
+				return p.condition(uint8(k*opStep), wide)
+			}
 		}
 	}
 	return p.access(first)

@@ -203,12 +203,16 @@ func TestKnownNumbers(t *testing.T) {
 	}
 }
 
-// TestPacketsAreNotMistaken: what is known of the packet's first byte is not taken for what is known of a place behind it.
+// TestPacketsAreNotMistaken: what is safe of the packet's first byte is not safe of a place behind it, wherever both meet.
 func TestPacketsAreNotMistaken(t *testing.T) {
-	l := read(t, "ldx8 r8 r1 8 / ldx8 r7 r1 16 / and64 r7 255 / mov64 r9 r1 / ldx8 r6 r1 0 / mov64 r0 0 / jeq64 r7 5 +1 / ja +3 / ldx8 r6 r9 0 / add64 r6 r7 / ja +0 / mov64 r7 0 / ldx8 r2 r9 0 / mov64 r3 r2 / add64 r3 8 / jgt64 r3 r8 +1 / ldx1 r0 r6 7 / exit")
-	told, _, e := paths.Check(l, layout)
-	if e == api.OK {
-		safe(t, l, told)
+	for _, text := range []string{
+		"ldx8 r8 r1 8 / ldx8 r7 r1 16 / and64 r7 255 / mov64 r9 r1 / ldx8 r6 r1 0 / mov64 r0 0 / jgt64 r7 5 +3 / add64 r6 r7 / mov64 r7 0 / ja +1 / mov64 r7 0 / ldx8 r2 r9 0 / mov64 r3 r2 / add64 r3 8 / jgt64 r3 r8 +1 / ldx1 r0 r6 7 / exit",
+		"ldx8 r8 r1 8 / ldx8 r7 r1 16 / and64 r7 255 / mov64 r9 r1 / ldx8 r6 r1 0 / mov64 r0 0 / jle64 r7 5 +2 / mov64 r7 0 / ja +2 / add64 r6 r7 / mov64 r7 0 / ldx8 r2 r9 0 / mov64 r3 r2 / add64 r3 8 / jgt64 r3 r8 +1 / ldx1 r0 r6 7 / exit",
+		"ldx8 r8 r1 8 / ldx8 r7 r1 16 / and64 r7 255 / mov64 r9 r1 / ldx8 r6 r1 0 / mov64 r0 0 / stx8 r10 -8 r6 / jgt64 r7 5 +4 / add64 r6 r7 / stx8 r10 -8 r6 / mov64 r7 0 / ja +1 / mov64 r7 0 / mov64 r6 0 / ldx8 r2 r9 0 / mov64 r3 r2 / add64 r3 8 / jgt64 r3 r8 +2 / ldx8 r6 r10 -8 / ldx1 r0 r6 7 / exit",
+	} {
+		if _, _, e := paths.Check(read(t, text), layout); e == api.OK {
+			t.Errorf("%q is taken", text)
+		}
 	}
 }
 
