@@ -162,6 +162,35 @@ func TestLengths(t *testing.T) {
 	}
 }
 
+// TestLongest: code of just MaxImage bytes is not too long, one byte more is.
+func TestLongest(t *testing.T) {
+	sizeOf := func(line string) int {
+		return len(code(t, read(t, line+" / exit"), api.Layout{}, nil)) - len(code(t, []api.Insn{exit}, api.Layout{}, nil))
+	}
+	long, small := "mod64 r0 r3", []string{"neg32 r1", "neg64 r1"} // of 2 bytes, and of 3
+	for _, want := range []int{api.MaxImage, api.MaxImage + 1} {
+		left := want - len(code(t, []api.Insn{exit}, api.Layout{}, nil))
+		n := (left - 10) / sizeOf(long)
+		l := slices.Repeat(read(t, long), n)
+		for left -= n * sizeOf(long); left > 0; {
+			line := small[1]
+			if left%3 != 0 {
+				line = small[0]
+			}
+			l = append(l, read(t, line)...)
+			left -= sizeOf(line)
+		}
+		if left != 0 {
+			t.Fatal("it does not come to", want)
+		}
+		l = append(l, exit)
+		s, e := jit.Code(l, api.Layout{}, nil)
+		if want == api.MaxImage && (e != api.OK || len(s) != want) || want > api.MaxImage && (e != api.ErrImage || s != "") {
+			t.Errorf("%d bytes: %d, %v", want, len(s), e)
+		}
+	}
+}
+
 // TestJumps makes jumps of all lengths, on and back, that hang on one another.
 func TestJumps(t *testing.T) {
 	seed := uint64(2)

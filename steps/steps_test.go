@@ -108,6 +108,7 @@ const (
 	lookLong = "st4 r10 -4 1 / mov64 r2 r10 / add64 r2 -4 / ldmap r1 2 / call 1 / "
 	any1     = "ldx1 r6 r1 16 / " // a number of one byte, which is not known
 	any8     = "ldx8 r6 r1 16 / "
+	update   = "st8 r10 -8 0 / mov64 r2 r10 / add64 r2 -8 / ldmap r1 1 / "
 	out      = "mov64 r0 0 / exit"
 )
 
@@ -139,6 +140,11 @@ func TestRefused(t *testing.T) {
 		// calls
 		"call 1 / " + out, "ldmap r1 0 / call 1 / " + out, "mov64 r2 r10 / mov64 r1 5 / call 1 / " + out, "st8 r10 -8 0 / mov64 r2 r10 / add64 r2 -8 / mov64 r1 r2 / call 1 / " + out, "ldmap r1 0 / mov64 r2 r10 / call 1 / " + out, "ldmap r1 0 / mov64 r2 r10 / add64 r2 -4 / call 1 / " + out, "ldmap r1 0 / mov64 r2 5 / call 3 / " + out, "st4 r10 -4 0 / mov64 r2 r10 / add64 r2 -4 / ldmap r1 1 / call 3 / " + out, "stx8 r10 -8 r10 / mov64 r2 r10 / add64 r2 -8 / ldmap r1 1 / call 1 / " + out,
 		"st8 r10 -8 0 / mov64 r2 r10 / add64 r2 -8 / ldmap r1 1 / call 2 / " + out, "st8 r10 -8 0 / mov64 r2 r10 / add64 r2 -8 / mov64 r3 r2 / ldmap r1 1 / call 2 / " + out, "st8 r10 -8 0 / mov64 r2 r10 / add64 r2 -8 / mov64 r3 r2 / ldmap r1 1 / mov64 r4 r10 / call 2 / " + out, "st8 r10 -8 0 / mov64 r2 r10 / add64 r2 -8 / mov64 r3 r10 / add64 r3 -2 / ldmap r1 1 / mov64 r4 0 / call 2 / " + out, pointers + "st8 r10 -8 0 / mov64 r3 r2 / mov64 r2 r10 / add64 r2 -8 / ldmap r1 1 / mov64 r4 0 / call 2 / " + out,
+		update + "mov64 r3 5 / mov64 r4 0 / call 2 / " + out, update + "mov64 r3 r2 / mov64 r5 0 / call 2 / " + out, update + "mov64 r3 r2 / mov64 r4 r10 / mov64 r5 0 / call 2 / " + out, update + "mov64 r4 r2 / mov64 r3 0 / call 2 / " + out,
+		"mov64 r1 1 / call 7 / mov64 r0 r1 / exit", "mov64 r2 1 / call 7 / mov64 r0 r2 / exit", "mov64 r3 1 / call 7 / mov64 r0 r3 / exit", "mov64 r4 1 / call 7 / mov64 r0 r4 / exit", "mov64 r5 1 / call 7 / mov64 r0 r5 / exit",
+		// one place of the packet is not another one, and one byte behind its end is too far
+		pointers + any1 + "ldx1 r7 r1 17 / mov64 r4 r2 / add64 r2 r6 / add64 r4 r7 / mov64 r5 r2 / add64 r5 4 / jgt64 r5 r3 +1 / ldx4 r0 r4 0 / " + out, pointers + "mov64 r0 0 / mov64 r4 r2 / add64 r4 4 / jlt64 r4 r3 +1 / exit / ldx1 r0 r2 5 / exit", pointers + "mov64 r0 0 / mov64 r4 r2 / add64 r4 4 / jle64 r4 r3 +1 / exit / ldx1 r0 r2 4 / exit", pointers + "mov64 r0 0 / mov64 r4 r2 / add64 r4 4 / jeq64 r4 r3 +1 / exit / ldx1 r0 r2 4 / exit",
+		"mov64 r6 1 / " + look + "jeq64 r6 r0 +0 / " + out, look + "jeq64 r10 r0 +0 / " + out,
 		// exits
 		"exit", "mov64 r0 r10 / exit", "ldmap r0 0 / exit", look + "exit", look + "jeq64 r0 0 +1 / exit / " + out, "ldx8 r0 r1 8 / exit",
 	} {
@@ -154,7 +160,8 @@ func TestTaken(t *testing.T) {
 		out, "ldx8 r0 r1 16 / exit", "ldx1 r0 r1 23 / exit", "st8 r1 16 5 / " + out, "stx8 r10 -8 r1 / ldx8 r2 r10 -8 / ldx8 r0 r2 16 / exit", "mov64 r2 r1 / add64 r2 8 / ldx8 r0 r2 8 / exit", "mov64 r2 8 / add64 r2 r1 / ldx8 r0 r2 8 / exit", "mov64 r2 r1 / sub64 r2 -8 / ldx8 r0 r2 8 / exit",
 		pointers + "mov64 r0 0 / mov64 r4 r2 / add64 r4 4 / jgt64 r4 r3 +1 / ldx4 r0 r2 0 / exit", pointers + "mov64 r0 0 / mov64 r4 r2 / add64 r4 4 / jlt64 r3 r4 +1 / ldx4 r0 r2 0 / exit", pointers + "mov64 r0 0 / mov64 r4 r2 / add64 r4 4 / jle64 r4 r3 +1 / exit / ldx4 r0 r2 0 / exit",
 		pointers + any1 + "mov64 r0 0 / add64 r2 r6 / mov64 r4 r2 / add64 r4 4 / jgt64 r4 r3 +1 / ldx4 r0 r2 0 / exit",
-		look + "jeq64 r0 0 +1 / ldx8 r0 r0 0 / exit", look + "jne64 r0 0 +1 / exit / ldx8 r0 r0 0 / exit", any1 + "and64 r6 7 / " + lookLong + "jeq64 r0 0 +2 / add64 r0 r6 / ldx8 r0 r0 49 / exit", "stx8 r10 -16 r1 / " + look + "ldx8 r1 r10 -16 / ldx8 r0 r1 16 / exit",
+		look + "jeq64 r0 0 +1 / ldx8 r0 r0 0 / exit", look + "jne64 r0 0 +1 / exit / ldx8 r0 r0 0 / exit", any1 + "and64 r6 7 / " + lookLong + "jeq64 r0 0 +2 / add64 r0 r6 / ldx8 r0 r0 49 / exit",
+		update + "mov64 r3 r2 / mov64 r4 0 / call 2 / exit", update + "call 3 / exit", "stx8 r10 -16 r1 / " + look + "ldx8 r1 r10 -16 / ldx8 r0 r1 16 / exit",
 	} {
 		if r := explore(read(t, text)); r.e != api.OK {
 			t.Errorf("%q: %v", text, r.e)
@@ -268,7 +275,7 @@ func TestAnyFrame(t *testing.T) {
 		seed = seed*6364136223846793005 + 1442695040888963407
 		return int(seed>>33) % n
 	}
-	odd := []int{0, 1, -1, 8, -8, 65535, 1 << 62, -1 << 63, 1<<63 - 1}
+	odd := []int{0, 1, 2, 3, -1, 8, -8, 65535, 1 << 62, -1 << 63, 1<<63 - 1}
 	for range 20000 {
 		var f frames.F
 		for r := range f.R {
