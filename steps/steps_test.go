@@ -144,7 +144,7 @@ func TestRefused(t *testing.T) {
 		"mov64 r1 1 / call 7 / mov64 r0 r1 / exit", "mov64 r2 1 / call 7 / mov64 r0 r2 / exit", "mov64 r3 1 / call 7 / mov64 r0 r3 / exit", "mov64 r4 1 / call 7 / mov64 r0 r4 / exit", "mov64 r5 1 / call 7 / mov64 r0 r5 / exit",
 		// one place of the packet is not another one, and one byte behind its end is too far
 		pointers + any1 + "ldx1 r7 r1 17 / mov64 r4 r2 / add64 r2 r6 / add64 r4 r7 / mov64 r5 r2 / add64 r5 4 / jgt64 r5 r3 +1 / ldx4 r0 r4 0 / " + out, pointers + "mov64 r0 0 / mov64 r4 r2 / add64 r4 4 / jlt64 r4 r3 +1 / exit / ldx1 r0 r2 5 / exit", pointers + "mov64 r0 0 / mov64 r4 r2 / add64 r4 4 / jle64 r4 r3 +1 / exit / ldx1 r0 r2 4 / exit", pointers + "mov64 r0 0 / mov64 r4 r2 / add64 r4 4 / jeq64 r4 r3 +1 / exit / ldx1 r0 r2 4 / exit",
-		"mov64 r6 1 / " + look + "jeq64 r6 r0 +0 / " + out, look + "jeq64 r10 r0 +0 / " + out,
+		"mov64 r6 1 / " + look + "jeq64 r6 r0 +0 / " + out, look + "jeq64 r10 r0 +0 / " + out, "mov64 r0 0 / jeq64 r0 r10 +0 / exit", pointers + "mov64 r0 0 / jne64 r0 r3 +0 / exit",
 		// exits
 		"exit", "mov64 r0 r10 / exit", "ldmap r0 0 / exit", look + "exit", look + "jeq64 r0 0 +1 / exit / " + out, "ldx8 r0 r1 8 / exit",
 	} {
