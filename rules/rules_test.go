@@ -29,43 +29,35 @@ var below = map[string]string{
 // each goes through all files of the layers that are no tests.
 func each(t *testing.T, look func(layer, file string, set *token.FileSet, a *ast.File)) {
 	t.Helper()
-	files, err := filepath.Glob("../*/*.go")
-	if err != nil || len(files) < len(below) {
-		t.Fatal(err, len(files))
-	}
-	for _, file := range files {
-		layer := filepath.Base(filepath.Dir(file))
-		if strings.HasSuffix(file, "_test.go") || layer == "sharedtests" {
-			continue
+	for layer := range below {
+		files, err := filepath.Glob(filepath.Join("..", layer, "*.go"))
+		if err != nil || len(files) == 0 {
+			t.Fatal(layer, err, len(files))
 		}
-		set := token.NewFileSet()
-		a, err := parser.ParseFile(set, file, nil, parser.ParseComments)
-		if err != nil {
-			t.Fatal(err)
+		for _, file := range files {
+			if strings.HasSuffix(file, "_test.go") {
+				continue
+			}
+			set := token.NewFileSet()
+			a, err := parser.ParseFile(set, file, nil, parser.ParseComments)
+			if err != nil {
+				t.Fatal(err)
+			}
+			look(layer, file, set, a)
 		}
-		look(layer, file, set, a)
 	}
 }
 
 func TestImports(t *testing.T) {
-	seen := map[string]int{}
 	each(t, func(layer, file string, _ *token.FileSet, a *ast.File) {
-		seen[layer]++
-		may, ok := below[layer]
-		if !ok {
-			t.Errorf("%s is no layer's", file)
-		}
 		for _, i := range a.Imports {
 			path, _ := strconv.Unquote(i.Path.Value)
 			own, ours := strings.CutPrefix(path, "firewall/")
-			if i.Name != nil || ours && own != "api" && !slices.Contains(strings.Fields(may), own) || !ours && !slices.Contains(library, path) {
+			if i.Name != nil || ours && own != "api" && !slices.Contains(strings.Fields(below[layer]), own) || !ours && !slices.Contains(library, path) {
 				t.Errorf("%s imports %s", file, path)
 			}
 		}
 	})
-	if len(seen) != len(below) {
-		t.Errorf("there are %d layers", len(seen))
-	}
 }
 
 // TestPackageLevel: what stands there is constants, types, functions, and tables that are written out.
