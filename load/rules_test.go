@@ -1,5 +1,6 @@
-// Package rules_test looks at the project's own code: whether each layer imports and keeps only what it may.
-package rules_test
+package load_test
+
+// This file looks at the project's own code: whether each layer imports, and keeps, only what it may.
 
 import (
 	"go/ast"
@@ -48,7 +49,7 @@ func each(t *testing.T, look func(layer, file string, set *token.FileSet, a *ast
 	}
 }
 
-func TestImports(t *testing.T) {
+func TestRuleImports(t *testing.T) {
 	each(t, func(layer, file string, _ *token.FileSet, a *ast.File) {
 		for _, i := range a.Imports {
 			path, _ := strconv.Unquote(i.Path.Value)
@@ -60,8 +61,8 @@ func TestImports(t *testing.T) {
 	})
 }
 
-// TestPackageLevel: what stands there is constants, types, functions, and tables that are written out.
-func TestPackageLevel(t *testing.T) {
+// TestRulePackageLevel: what stands there is constants, types, functions, and tables that are written out.
+func TestRulePackageLevel(t *testing.T) {
 	each(t, func(_, file string, _ *token.FileSet, a *ast.File) {
 		for _, d := range a.Decls {
 			g, ok := d.(*ast.GenDecl)
@@ -85,7 +86,7 @@ func TestPackageLevel(t *testing.T) {
 	})
 }
 
-func TestFunctions(t *testing.T) {
+func TestRuleFunctions(t *testing.T) {
 	each(t, func(_, file string, set *token.FileSet, a *ast.File) {
 		for _, c := range a.Comments {
 			for _, l := range c.List {
