@@ -121,7 +121,7 @@ func safe(t *testing.T, l []api.Insn, told paths.Told) {
 // TestTakenIsSafe makes programs with all kinds of instructions, and jumps on and back, by a rule.
 func TestTakenIsSafe(t *testing.T) {
 	names := []string{"add64 r%a r%b", "mov64 r%a r%b", "sub64 r%a %n", "and64 r%a 7", "mod64 r%a r%b", "neg32 r%a", "mov64 r%a %n", "rsh64 r%a r%b", "mul32 r%a r%b",
-		"jgt64 r%a r%b %j", "jslt64 r%a %n %j", "jset64 r%a 4 %j", "jle32 r%a r%b %j", "jeq64 r%a %n %j", "jne64 r%a %n %j", "ja %j", "jgt64 r7 r8 %j", "jle64 r7 r8 %j", "jeq64 r0 0 %j", "jne64 r0 0 %j", "jne64 r4 0 -4", "sub64 r4 1", "jlt64 r5 6 -3", "add64 r5 1",
+		"jgt64 r%a r%b %j", "jslt64 r%a %n %j", "jset64 r%a 4 %j", "jle32 r%a r%b %j", "jeq64 r%a %n %j", "jne64 r%a %n %j", "ja %j", "jgt64 r7 r8 %j", "jle64 r7 r8 %j", "jset64 r7 r8 %j", "jsle64 r8 r7 %j", "jge64 r0 0 %j", "jeq64 r0 0 %j", "jne64 r0 0 %j", "jne64 r4 0 -4", "sub64 r4 1", "jlt64 r5 6 -3", "add64 r5 1",
 		"stx8 r10 -8 r%a", "stx4 r10 -12 r%a", "ldx8 r%a r10 -8", "ldx2 r%a r10 -6", "ldx8 r%a r9 16", "ldx1 r%a r9 16", "stx2 r9 20 r%a", "stx8 r10 -24 r7", "ldx8 r7 r10 -24", "stx8 r10 -32 r0", "ldx8 r0 r10 -32",
 		"call 7", "mov64 r7 r6", "add64 r7 4", "add64 r7 1", "ldx1 r%a r7 0", "ldx1 r%a r7 -1", "ldx4 r%a r6 0", "add64 r7 r%a", "ldx8 r6 r9 0",
 		"mov64 r2 r10\nadd64 r2 -16\nldmap r1 0\ncall 1", "mov64 r2 r10\nadd64 r2 -16\nldmap r1 1\ncall 1", "jeq64 r0 0 +1\nldx4 r3 r0 0", "jeq64 r0 0 +2\nadd64 r0 r4\nldx1 r3 r0 8", "mov64 r0 0", "mov64 r1 1\nmov64 r2 2", "st1 r0 3 5"}

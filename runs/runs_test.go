@@ -234,7 +234,7 @@ func kept(t *testing.T, p load.Program, s api.Start, text string) {
 // TestWhatFollows makes programs by a rule: all three runs come to the same end, and other memory makes no difference.
 func TestWhatFollows(t *testing.T) {
 	names := []string{"add64 r%a r%b", "mov64 r%a r%b", "sub64 r%a %n", "and64 r%a 7", "mod64 r%a r%b", "div32 r%a r%b", "neg32 r%a", "mov64 r%a %n", "rsh64 r%a r%b", "lsh32 r%a r4", "mul32 r%a r%b", "arsh64 r%a 5",
-		"jgt64 r%a r%b %j", "jslt64 r%a %n %j", "jset64 r%a 4 %j", "jle32 r%a r%b %j", "jeq64 r%a %n %j", "jne64 r%a %n %j", "ja %j", "jgt64 r7 r8 %j", "jle64 r7 r8 %j", "sub64 r4 1\njne64 r4 0 -2",
+		"jgt64 r%a r%b %j", "jslt64 r%a %n %j", "jset64 r%a 4 %j", "jle32 r%a r%b %j", "jeq64 r%a %n %j", "jne64 r%a %n %j", "ja %j", "jgt64 r7 r8 %j", "jle64 r7 r8 %j", "jset64 r7 r8 %j", "jsle64 r8 r7 %j", "jge64 r0 0 %j", "sub64 r4 1\njne64 r4 0 -2",
 		"stx8 r10 -8 r%a", "stx4 r10 -12 r%a", "ldx8 r%a r10 -8", "ldx2 r%a r10 -6", "ldx8 r%a r9 16", "ldx1 r%a r9 16", "stx2 r9 20 r%a", "stx8 r10 -24 r7", "ldx8 r7 r10 -24", "stx8 r10 -32 r%a\nldx8 r%a r10 -32",
 		"call 7", "mov64 r7 r6", "mov64 r7 r6\nadd64 r7 4\njgt64 r7 r8 +2\nldx4 r%a r6 0\nstx1 r6 2 r%a", "mov64 r7 r6\nadd64 r7 1\njgt64 r7 r8 +6\nldx1 r3 r6 0\nand64 r3 7\nadd64 r7 r3\nadd64 r7 2\njgt64 r7 r8 +1\nldx2 r%a r7 -2",
 		"mov64 r2 r10\nadd64 r2 -16\nldmap r1 0\ncall 1\njeq64 r0 0 +1\nldx4 r3 r0 0\nmov64 r0 0\nmov64 r1 1\nmov64 r2 2", "mov64 r2 r10\nadd64 r2 -16\nldmap r1 0\ncall 1\njeq64 r0 0 +4\nldx1 r1 r0 0\nand64 r1 7\nadd64 r0 r1\nldx1 r3 r0 8\nmov64 r0 0\nmov64 r1 1\nmov64 r2 2",

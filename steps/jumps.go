@@ -11,9 +11,11 @@ import (
 // turned tells which condition says the same of two the other way about.
 func turned() map[uint8]uint8 {
 	return map[uint8]uint8{
-		api.JmpEq: api.JmpEq, api.JmpNe: api.JmpNe,
+		api.JmpEq: api.JmpEq, api.JmpNe: api.JmpNe, api.JmpSet: api.JmpSet,
 		api.JmpGt: api.JmpLt, api.JmpLt: api.JmpGt,
 		api.JmpGe: api.JmpLe, api.JmpLe: api.JmpGe,
+		api.JmpSgt: api.JmpSlt, api.JmpSlt: api.JmpSgt,
+		api.JmpSge: api.JmpSle, api.JmpSle: api.JmpSge,
 	}
 }
 
@@ -86,23 +88,21 @@ func (s *step) compareNumbers(op uint8, wide bool, a, b scalars.N) []Way {
 
 // compareAddresses is the ways behind a comparison of 64 bits, one of whose sides is an address.
 func (s *step) compareAddresses(op uint8, a, b kinds.V) ([]Way, api.Errno) {
-	other, ok := turned()[op]
-	switch {
-	case !ok:
-		return nil, api.ErrType
+	switch other := turned()[op]; {
 	case a.Kind == kinds.Packet && b.Kind == kinds.End:
 		return s.comparePacket(op, a), api.OK
 	case a.Kind == kinds.End && b.Kind == kinds.Packet:
 		return s.comparePacket(other, b), api.OK
-	case op != api.JmpEq && op != api.JmpNe:
-		return nil, api.ErrType
-	case a.Kind == kinds.Maybe && isZero(b):
+	case isLookups(a) && isZero(b):
 		return s.compareFound(op, a), api.OK
-	case b.Kind == kinds.Maybe && isZero(a):
-		return s.compareFound(op, b), api.OK
+	case isLookups(b) && isZero(a):
+		return s.compareFound(other, b), api.OK
 	}
 	return nil, api.ErrType
 }
+
+// isLookups tells of what a lookup told.
+func isLookups(v kinds.V) bool { return v.Kind == kinds.Maybe || v.Kind == kinds.Value }
 
 func isZero(v kinds.V) bool {
 	c, ok := scalars.One(v.N)
@@ -131,16 +131,26 @@ func there(op uint8, holds bool, off int) (int, bool) {
 		return off, holds
 	case api.JmpGe:
 		return off + 1, !holds
+	case api.JmpLt:
+		return off + 1, holds
 	}
-	return off + 1, holds
+	return 0, false
 }
 
-// compareFound is the ways behind a comparison of what a lookup told with 0.
+// compareFound is the ways behind a comparison of what a lookup told with 0; what is known to be an address is never 0.
 func (s *step) compareFound(op uint8, v kinds.V) []Way {
 	var ways []Way
+	tells := op == api.JmpEq || op == api.JmpNe
 	for _, holds := range [2]bool{false, true} {
 		is := holds == (op == api.JmpNe)
-		ways = append(ways, Way{s.place(holds), frames.Found(s.f, v.ID, is)})
+		f := s.f
+		switch {
+		case tells && v.Kind == kinds.Maybe:
+			f = frames.Found(f, v.ID, is)
+		case tells && !is:
+			continue
+		}
+		ways = append(ways, Way{s.place(holds), f})
 	}
 	return ways
 }

@@ -144,6 +144,8 @@ func TestRefused(t *testing.T) {
 		"mov64 r1 1 / call 7 / mov64 r0 r1 / exit", "mov64 r2 1 / call 7 / mov64 r0 r2 / exit", "mov64 r3 1 / call 7 / mov64 r0 r3 / exit", "mov64 r4 1 / call 7 / mov64 r0 r4 / exit", "mov64 r5 1 / call 7 / mov64 r0 r5 / exit",
 		// one place of the packet is not another one, and one byte behind its end is too far
 		pointers + any1 + "ldx1 r7 r1 17 / mov64 r4 r2 / add64 r2 r6 / add64 r4 r7 / mov64 r5 r2 / add64 r5 4 / jgt64 r5 r3 +1 / ldx4 r0 r4 0 / " + out, pointers + "mov64 r0 0 / mov64 r4 r2 / add64 r4 4 / jlt64 r4 r3 +1 / exit / ldx1 r0 r2 5 / exit", pointers + "mov64 r0 0 / mov64 r4 r2 / add64 r4 4 / jle64 r4 r3 +1 / exit / ldx1 r0 r2 4 / exit", pointers + "mov64 r0 0 / mov64 r4 r2 / add64 r4 4 / jeq64 r4 r3 +1 / exit / ldx1 r0 r2 4 / exit",
+		look + "jsgt64 r0 0 +1 / exit / " + out, look + "jset64 r0 0 +1 / ldx8 r0 r0 0 / " + out, look + "jeq64 r0 0 +1 / jeq64 r0 1 +0 / " + out, look + "jeq64 r0 0 +1 / jeq32 r0 0 +0 / " + out, look + "jeq64 r0 0 +1 / jgt64 r0 r10 +0 / " + out,
+		pointers + "mov64 r4 r2 / add64 r4 4 / jset64 r4 r3 +1 / ldx4 r0 r2 0 / " + out, pointers + "mov64 r4 r2 / add64 r4 4 / jset64 r4 r3 +0 / ldx4 r0 r2 0 / " + out, pointers + "mov64 r4 r2 / add64 r4 4 / jsge64 r3 r4 +1 / ldx4 r0 r2 0 / " + out,
 		"mov64 r6 1 / " + look + "jeq64 r6 r0 +0 / " + out, look + "jeq64 r10 r0 +0 / " + out, "mov64 r0 0 / jeq64 r0 r10 +0 / exit", pointers + "mov64 r0 0 / jne64 r0 r3 +0 / exit",
 		// exits
 		"exit", "mov64 r0 r10 / exit", "ldmap r0 0 / exit", look + "exit", look + "jeq64 r0 0 +1 / exit / " + out, "ldx8 r0 r1 8 / exit",
@@ -161,7 +163,9 @@ func TestTaken(t *testing.T) {
 		pointers + "mov64 r0 0 / mov64 r4 r2 / add64 r4 4 / jgt64 r4 r3 +1 / ldx4 r0 r2 0 / exit", pointers + "mov64 r0 0 / mov64 r4 r2 / add64 r4 4 / jlt64 r3 r4 +1 / ldx4 r0 r2 0 / exit", pointers + "mov64 r0 0 / mov64 r4 r2 / add64 r4 4 / jle64 r4 r3 +1 / exit / ldx4 r0 r2 0 / exit",
 		pointers + any1 + "mov64 r0 0 / add64 r2 r6 / mov64 r4 r2 / add64 r4 4 / jgt64 r4 r3 +1 / ldx4 r0 r2 0 / exit",
 		look + "jeq64 r0 0 +1 / ldx8 r0 r0 0 / exit", look + "jne64 r0 0 +1 / exit / ldx8 r0 r0 0 / exit", any1 + "and64 r6 7 / " + lookLong + "jeq64 r0 0 +2 / add64 r0 r6 / ldx8 r0 r0 49 / exit",
-		update + "mov64 r3 r2 / mov64 r4 0 / call 2 / exit", update + "call 3 / exit", "stx8 r10 -16 r1 / " + look + "ldx8 r1 r10 -16 / ldx8 r0 r1 16 / exit",
+		update + "mov64 r3 r2 / mov64 r4 0 / call 2 / exit", update + "call 3 / exit",
+		// comparisons that tell nothing, or again what is known
+		pointers + "mov64 r0 0 / jset64 r2 r3 +0 / jsgt64 r2 r3 +0 / jsle64 r3 r2 +0 / exit", look + "jsgt64 r0 0 +0 / jge64 r0 0 +0 / jset64 r0 0 +0 / mov64 r0 0 / exit", look + "jeq64 r0 0 +2 / jeq64 r0 0 +1 / ldx8 r0 r0 0 / exit", "mov64 r6 0 / " + look + "jne64 r6 r0 +1 / exit / jne64 r0 r6 +1 / exit / ldx8 r0 r0 0 / exit", "stx8 r10 -16 r1 / " + look + "ldx8 r1 r10 -16 / ldx8 r0 r1 16 / exit",
 	} {
 		if r := explore(read(t, text)); r.e != api.OK {
 			t.Errorf("%q: %v", text, r.e)
