@@ -254,7 +254,7 @@ func TestWhatFollows(t *testing.T) {
 			line = strings.ReplaceAll(line, "%j", []string{"+0", "+1", "+1", "+2", "+3"}[next(5)])
 			text += strings.ReplaceAll(line, "%n", []string{"0", "1", "-8", "16", "255"}[next(5)]) + "\n"
 		}
-		if strings.Count(text, "\n") > 55 {
+		if strings.Count(text, "\n")+strings.Count(text, "ldmap") > api.MaxInsns-5 {
 			continue
 		}
 		p, e := loaded(t, text+"mov64 r1 1\nmov64 r1 1\nadd64 r0 r2\nxor64 r0 r3\nexit")
