@@ -27,6 +27,12 @@ func newTable(m api.Map) table {
 	return &hash{make([]string, m.Max)}
 }
 
+// hashOf is a table that is a hash; false: it is none.
+func hashOf(t table) (*hash, bool) {
+	h, ok := t.(*hash)
+	return h, ok
+}
+
 func (a array) place(key string) int {
 	p := nums.Num(key)
 	if len(key) != arrayKey || p >= uint64(a.max) {
